@@ -1,0 +1,1 @@
+"""Judgeslip: programs that read programs, and where each judge of them slips."""
