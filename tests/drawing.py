@@ -1,0 +1,116 @@
+"""Programs and things that are drawn, the same each time, and a plain walk of runs to hold others against."""
+
+import random
+
+from judgeslip.errors import TooGreat
+from judgeslip.programs import Program
+from judgeslip.things import Thing
+from shapes import NIL, ONE
+
+KINDS = ("told", "first", "second", "pair", "same", "while", "if")
+
+
+def source(seed):
+    return random.Random(f"judgeslip {seed}")
+
+
+def draw_thing(chance, pairs):
+    """A thing of just so many pairs."""
+    if pairs == 0:
+        return Thing()
+    ahead = chance.choice([0, pairs - 1, chance.randrange(pairs)])
+    return Thing(draw_thing(chance, ahead), draw_thing(chance, pairs - 1 - ahead))
+
+
+def draw_deeds(chance, many, floors=8, names=10, told=3):
+    """A row of so many deeds, those within rows too, in at most so many floors, of the first so many names."""
+    deeds = []
+    while many > 0:
+        kind = chance.choice(KINDS if floors else KINDS[:5])
+        if kind in ("while", "if"):
+            inner = chance.randint(0, many - 1)
+            many -= 1 + inner
+            deeds.append(draw_look(chance, kind, inner, (floors - 1, names, told)))
+        else:
+            many -= 1
+            deeds.append(draw_making(chance, kind, names, told))
+    return tuple(deeds)
+
+
+def draw_making(chance, kind, names, told):
+    name = chance.randrange(names)
+    if kind == "told":
+        return (kind, name, draw_thing(chance, chance.randint(0, told)))
+    others = 1 if kind in ("first", "second") else 2
+    return (kind, name, *[chance.randrange(names) for _ in range(others)])
+
+
+def draw_look(chance, kind, inner, bounds):
+    name = chance.randrange(bounds[1])
+    if kind == "if":
+        ahead = chance.randint(0, inner)
+        return (kind, name, draw_deeds(chance, ahead, *bounds), draw_deeds(chance, inner - ahead, *bounds))
+    if inner and chance.random() < 0.7:
+        # Most whiles take their name apart, so that some end.
+        return (kind, name, draw_deeds(chance, inner - 1, *bounds) + (("second", name, name),))
+    return (kind, name, draw_deeds(chance, inner, *bounds))
+
+
+def draw_program(chance, many, floors=8, names=10, told=3):
+    return Program(draw_deeds(chance, many, floors, names, told))
+
+
+def rows_of(deed):
+    return [part for part in deed[1:] if isinstance(part, tuple)]
+
+
+def how_many(row):
+    """How many deeds stand in a row, those within rows too."""
+    return sum(1 + sum(how_many(inner) for inner in rows_of(deed)) for deed in row)
+
+
+def walk_row(row, first, names):
+    """Does a row, straight by the rules; tells the point of each deed just ahead of doing it."""
+    for deed in row:
+        yield first
+        kind, name = deed[:2]
+        if kind == "while":
+            while names[name] != NIL:
+                yield from walk_row(deed[2], first + 1, names)
+                yield first
+        elif kind == "if" and names[name] != NIL:
+            yield from walk_row(deed[2], first + 1, names)
+        elif kind == "if":
+            yield from walk_row(deed[3], first + 1 + how_many(deed[2]), names)
+        else:
+            names[name] = walk_making(deed, names)
+        first += how_many((deed,))
+
+
+def walk_making(deed, names):
+    if deed[0] == "told":
+        return deed[2]
+    if deed[0] == "first":
+        return names[deed[2]].head()
+    if deed[0] == "second":
+        return names[deed[2]].tail()
+    if deed[0] == "pair":
+        return Thing(names[deed[2]], names[deed[3]])
+    return ONE if str(names[deed[2]]) == str(names[deed[3]]) else NIL
+
+
+def walk(program, thing, many):
+    """At most so many (point, names) of a run, and whether it ended, is "great", or goes on ("open")."""
+    names = [thing] + [NIL] * 9
+    found = []
+    try:
+        for point in walk_row(program.deeds, 0, names):
+            if len(found) == many:
+                return found, "open"
+            found.append((point, tuple(names)))
+    except TooGreat:
+        return found, "great"
+    if len(found) == many:
+        return found, "open"
+    found.append((how_many(program.deeds), tuple(names)))
+    return found, "ended"
