@@ -2,8 +2,10 @@
 
 import random
 
-from judgeslip.errors import TooGreat
+from judgeslip.codes import code_of
+from judgeslip.errors import NoStep, TooGreat
 from judgeslip.programs import Program
+from judgeslip.runs import begin, step
 from judgeslip.things import Thing
 from shapes import NIL, ONE
 
@@ -114,3 +116,37 @@ def walk(program, thing, many):
         return found, "open"
     found.append((how_many(program.deeds), tuple(names)))
     return found, "ended"
+
+
+def draw_coded(chance, most, names=10, told=3):
+    """A program whose code has at most so many pairs, and not many fewer."""
+    deeds = ()
+    while True:
+        more = draw_deeds(chance, chance.randint(1, 6), names=names, told=told)
+        more = Program(deeds + more)
+        if len(code_of(more)) > most:
+            return Program(deeds)
+        deeds = more.deeds
+
+
+def first_again(program, thing, budget):
+    """The first (early, late) of a run up to so many steps; None where there is none."""
+    known = {}
+
+    def key(part):
+        # The thing is kept, so no other one gets its number.
+        if id(part) not in known:
+            known[id(part)] = (part, str(part))
+        return known[id(part)][1]
+
+    stand, seen = begin(program, thing), {}
+    for steps in range(budget + 1):
+        told = (stand.point, *[key(part) for part in stand.names])
+        if told in seen:
+            return seen[told], steps
+        seen[told] = steps
+        try:
+            stand = step(program, stand)
+        except (NoStep, TooGreat):
+            return None
+    return None
