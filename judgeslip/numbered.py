@@ -28,18 +28,10 @@ class Walk:
     def __init__(self, program, shelf, first):
         self.plan = program.plan
         self.shelf = shelf
-        self.tellings = told_numbers(program, shelf)
+        # Of the points of told deeds the numbers of their things, once they are done.
+        self.tellings = {}
         self.point = 0
         self.names = [first] + [NIL] * (MANY_NAMES - 1)
-
-
-def told_numbers(program, shelf):
-    """Of the point of each told deed the number of its thing."""
-    found = {}
-    for point, (deed, ways) in enumerate(program.plan):
-        if deed[0] == "told":
-            found[point] = thing_number(shelf, deed[2])
-    return found
 
 
 def pair_number(shelf, one, other):
@@ -89,6 +81,8 @@ def number_made(walk, deed):
     """The number of what the first name of a deed that is no look comes to stand for."""
     kind = deed[0]
     if kind == "told":
+        if walk.point not in walk.tellings:
+            walk.tellings[walk.point] = thing_number(walk.shelf, deed[2])
         return walk.tellings[walk.point]
     one = walk.names[deed[2]]
     if kind == "first":

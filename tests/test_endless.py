@@ -154,6 +154,7 @@ class EndlessTest(unittest.TestCase):
             self.assertEqual(endless(program, ONE, late), ("again", program, ONE, late - 1, late))
         program = comes_again(2000)
         self.assertEqual(endless(program, ONE), ("again", program, ONE, 1999, 2000))
+        self.assertEqual(endless(comes_again(2001), ONE)[0], "closed")
         self.check_closed(comes_again(2001), ONE, 1)
 
     def test_the_least_depth(self):

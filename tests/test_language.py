@@ -103,10 +103,14 @@ class LanguageTest(unittest.TestCase):
     def test_module_level(self):
         plain = (ast.Constant, ast.Tuple, ast.List, ast.Dict, ast.Load)
         for name, tree in trees():
-            bound = []
+            bound, above = [], set()
             for node in tree.body:
+                if isinstance(node, ast.FunctionDef):
+                    above.add(node.name)
                 if isinstance(node, ast.Assign):
-                    self.assertTrue(all(isinstance(part, plain) for part in ast.walk(node.value)), name)
+                    for part in ast.walk(node.value):
+                        told = part.id in above if isinstance(part, ast.Name) else isinstance(part, plain)
+                        self.assertTrue(told, f"{name} {node.lineno}")
                     bound.extend(target.id for target in node.targets)
                 elif isinstance(node, ast.ImportFrom):
                     bound.extend(part.asname or part.name for part in node.names)
@@ -116,6 +120,18 @@ class LanguageTest(unittest.TestCase):
                     self.assertIs(node, tree.body[0], f"{name} {node.lineno}")
                     self.assertIsInstance(node.value, ast.Constant, name)
             self.assertEqual(len(bound), len(set(bound)), name)
+
+    def test_tables_are_only_read(self):
+        for name, tree in trees():
+            tables = {node.targets[0].id for node in tree.body
+                      if isinstance(node, ast.Assign) and isinstance(node.value, (ast.List, ast.Dict))}
+            for node in ast.walk(tree):
+                if isinstance(node, (ast.Subscript, ast.Attribute)) and isinstance(node.ctx, (ast.Store, ast.Del)):
+                    self.assertNotIn(getattr(node.value, "id", None), tables, f"{name} {node.lineno}")
+                if isinstance(node, ast.Call) and isinstance(node.func, ast.Subscript):
+                    self.fail(f"{name} {node.lineno}: what stands in a table is called by a name")
+                if isinstance(node, (ast.Return, ast.Assign)) and isinstance(node.value, ast.Name):
+                    self.assertNotIn(node.value.id, tables, f"{name} {node.lineno}")
 
     def test_local_names_hide_nothing(self):
         for name, tree in trees():

@@ -216,6 +216,15 @@ class TwinsTest(Twinning):
         self.assertEqual(twins(judge, one, other, steps - 1), OPEN)
         self.assertEqual(twins(judge, one, other, steps)[0], "twins")
 
+    def test_greater_things(self):
+        # As great as the pair of the twin's code and the thing may be.
+        one, other = read_program("a = second a"), read_program("a = .")
+        _, made, like, count = twins(FIRST_KIND, one, other)
+        room = 4000 - 1 - len(code_of(made))
+        self.assertGreater(room, 2000)
+        for thing in (left(room), right(room)):
+            self.check_stand(made, like, count, thing)
+
     def test_by_keyword(self):
         one, other = read_program("a = pair a a"), read_program("a = .")
         told = twins(FIRST_KIND, one, other)
