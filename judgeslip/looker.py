@@ -5,7 +5,7 @@ from judgeslip.cuts import cut_begin, cut_steps
 from judgeslip.errors import NoStep, TooGreat
 from judgeslip.numbered import MARK, NIL, Shelf, Walk, go_on, hangs_on_mark
 from judgeslip.programs import MANY_NAMES, Program, rows_in
-from judgeslip.runs import begin, run, step
+from judgeslip.runs import begin, run, saying, step
 from judgeslip.things import Thing, number, parts
 
 MOST_STEPS = 20000
@@ -129,9 +129,9 @@ def slip_holds(paper):
     if word == "silent":
         return plain_holds(inner, endless, judge, asked)
     if word == "ends":
-        return plain_holds(inner, endless, program, thing) and saying(judge, asked) is True
+        return plain_holds(inner, endless, program, thing) and saying(judge, asked, MOST_STEPS) is True
     if word == "doesn't":
-        return plain_holds(inner, ("run",), program, thing) and saying(judge, asked) is False
+        return plain_holds(inner, ("run",), program, thing) and saying(judge, asked, MOST_STEPS) is False
     return False
 
 
@@ -141,12 +141,6 @@ def asked_of(program, thing):
         return Thing(code_of(program), thing)
     except TooGreat:
         return None
-
-
-def saying(judge, thing):
-    """Whether a judge tells a pair of a thing; None where it tells nothing."""
-    said = run(judge, thing, MOST_STEPS)
-    return said.thing.size > 0 if said.word == "ended" else None
 
 
 def twins_holds(paper):
@@ -164,7 +158,7 @@ def code_saying(judge, program):
         code = code_of(program)
     except TooGreat:
         return None
-    return saying(judge, code)
+    return saying(judge, code, MOST_STEPS)
 
 
 def comes_to(one, other, count):

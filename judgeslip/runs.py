@@ -114,3 +114,9 @@ def run(program, thing, budget=2000):
             return Run("great", steps)
         steps += 1
     return Run("ended", steps, names[0])
+
+
+def saying(judge, thing, budget):
+    """Whether a judge says yes of a thing, by telling a pair, or no, by nil; None where it says nothing by then."""
+    said = run(judge, thing, budget)
+    return said.thing.size > 0 if said.word == "ended" else None

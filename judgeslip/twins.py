@@ -4,7 +4,7 @@ from judgeslip.codes import code_of
 from judgeslip.errors import NoRoom
 from judgeslip.owns import own_code
 from judgeslip.programs import Program, rows_in
-from judgeslip.runs import run
+from judgeslip.runs import run, saying
 from judgeslip.things import Thing
 
 # What the judge and the two leave free: the names 8 and 9, and one while or if.
@@ -27,12 +27,6 @@ def twins(judge, one, other, budget=4000):
     if said.word != "ended":
         return ("open", None, None, 0)
     return ("twins", made, bad if said.thing.size else good, ahead + said.steps)
-
-
-def saying(judge, code, budget):
-    """Whether the judge says yes of a code; None where it says nothing."""
-    said = run(judge, code, budget)
-    return said.thing.size > 0 if said.word == "ended" else None
 
 
 def look_for_room(judge, one, other):
